@@ -1,0 +1,1 @@
+"""Deducehall: a deductive store, kept up change by change."""

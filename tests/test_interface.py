@@ -1,0 +1,174 @@
+"""The interface of the modules that have landed, as the document lists it, [1] and [34]."""
+
+import importlib
+import inspect
+import unittest
+
+# "class NAME(arguments): fields", "NAME.method(arguments)", "function(arguments)", as in the document.
+LISTED = {
+    "errors": """
+        class DeduceFault
+        class BadSign
+        class BadRule
+        class BadKind
+        class BadLayer
+        class NoSuch
+        class BadDeed
+        class BadGround
+        class BadStore
+        class Broken
+        class BadSize
+    """,
+    "signs": """
+        class Sign(kind, said, row, column): kind, said, row, column
+        Sign.shown()
+        Sign.is_mark(said)
+        class Cutter(text): text, place, row, begun, signs
+        Cutter.at_end()
+        Cutter.run(good)
+        Cutter.quoted()
+        Cutter.signed()
+        Cutter.take_number()
+        Cutter.mark()
+        Cutter.cut_one()
+        is_figure(sign)
+        is_small(sign)
+        is_inner(sign)
+        cut(text)
+        fault_at(text)
+        laid_out(signs)
+        marked(said)
+    """,
+    "terms": """
+        class Term(name, value=None): name, value
+        Term.is_variable()
+        Term.shown()
+        Term.under(bound)
+        Term.known(bound)
+        var(name)
+        val(value)
+        is_number(value)
+        value_key(value)
+        row_key(row)
+        bound_key(bound)
+        in_order(rows)
+        names_in(terms)
+        filled(terms, bound)
+        matched(terms, row, bound)
+        pattern(terms, bound)
+        led_to(term, links)
+        made_alike(one, other)
+        put_in(terms, links)
+        shown_all(terms)
+        renamed(terms, names)
+        is_plain(word)
+        told_value(value)
+        is_kept(name)
+        told_term(term)
+    """,
+    "rules": """
+        class Literal(kind, name, terms): kind, name, terms, own
+        Literal.names()
+        Literal.shown()
+        Literal.with_names(names)
+        class Rule(name, terms, body, summed=None): name, terms, body, summed, stands
+        Rule.names()
+        Rule.asked(kind)
+        Rule.reckons()
+        Rule.shown()
+        Rule.with_names(names)
+        Rule.plain()
+        Rule.group()
+        pos(name, terms)
+        neg(name, terms)
+        held(sign, one, other)
+        let(target, deed, one, other)
+        summed_rule(name, terms, body, place, kind)
+        same_rule(one, other)
+        without_repeats(rules)
+        told_by(rules, name)
+        names_of(rules)
+        reckoned(deed, one, other)
+        bounded(number)
+    """,
+    "readers": """
+        class Clause(kind, rule, body): kind, rule, body
+        Clause.shown()
+        class Reader(signs): signs, place, bare
+        Reader.at_end()
+        Reader.here()
+        Reader.is_here(said)
+        Reader.take(said)
+        Reader.word()
+        Reader.term()
+        Reader.term_list()
+        Reader.summed_here()
+        Reader.head()
+        Reader.held_or_let()
+        Reader.literal()
+        Reader.literals()
+        Reader.clause()
+        read(text)
+        read_rule(text)
+        told_atom(name, terms)
+        told_literal(literal)
+        told_body(body)
+        told_rule(rule)
+        told_clause(clause)
+        told(clauses)
+    """,
+}
+
+
+def lines_of(module):
+    return [line.strip() for line in LISTED[module].strip().split("\n")]
+
+
+def arguments_of(thing, skip):
+    parameters = list(inspect.signature(thing).parameters.values())[skip:]
+    return f"({', '.join(str(parameter) for parameter in parameters)})"
+
+
+def samples():
+    """Return what is handed in to make one of each class, to look at its fields."""
+    return {
+        "Sign": ("word", "a", 1, 1), "Cutter": ("a",), "Term": ("X",), "Literal": ("pos", "p", ()),
+        "Rule": ("p", (), ()), "Clause": ("ask", None, ()), "Reader": ((),),
+    }
+
+
+class InterfaceTest(unittest.TestCase):
+    def test_all_that_is_listed(self):
+        for module in LISTED:
+            found = importlib.import_module(f"deducehall.{module}")
+            for line in lines_of(module):
+                with self.subTest(module=module, line=line):
+                    self.stands(found, line)
+
+    def stands(self, module, line):
+        if line.startswith("class "):
+            self.stands_as_class(module, line[len("class "):])
+            return
+        place, bracket, arguments = line.partition("(")
+        owner, point, name = place.rpartition(".")
+        held = vars(getattr(module, owner)) if point else vars(module)
+        self.assertIn(name, held)
+        self.assertTrue(inspect.isfunction(held[name]))
+        self.assertEqual(held[name].__module__, module.__name__)
+        self.assertEqual(arguments_of(held[name], 1 if point else 0), bracket + arguments)
+
+    def stands_as_class(self, module, line):
+        head, _, fields = line.partition(": ")
+        name, bracket, arguments = head.partition("(")
+        found = getattr(module, name)
+        self.assertTrue(inspect.isclass(found))
+        self.assertEqual(found.__module__, module.__name__)
+        if bracket:
+            self.assertEqual(arguments_of(found.__init__, 1), bracket + arguments)
+            made = found(*samples()[name])
+            for field in fields.split(", "):
+                self.assertIn(field, vars(made))
+
+
+if __name__ == "__main__":
+    unittest.main()
