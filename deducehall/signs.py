@@ -112,12 +112,10 @@ class Cutter:
 
     def take_number(self):
         """Take a number; BadSign for more than eighteen figures."""
-        begun = self.place
+        where = self.where()
         said = self.run(FIGURES)
         if len(said.lstrip("-")) > MOST_FIGURES:
-            # A refused sign isn't taken: the place told is where it begins.
-            self.place = begun
-            raise BadSign(f"too long a number: {self.where()}")
+            raise BadSign(f"too long a number: {where}")
         return said
 
     def mark(self):

@@ -13,9 +13,9 @@ BUILTINS = (
     " any all divmod ValueError KeyError"
 ).split()
 METHODS = (
-    "append clear copy count endswith extend find get index insert isalnum isalpha isdigit islower isspace isupper items"
-    " join keys ljust lower lstrip partition pop remove replace reverse rfind rjust rpartition rsplit rstrip setdefault"
-    " split splitlines startswith strip update upper values zfill bit_length"
+    "append clear copy count endswith extend find get index insert isalnum isalpha isdigit islower isspace isupper"
+    " items join keys ljust lower lstrip partition pop remove replace reverse rfind rjust rpartition rsplit rstrip"
+    " setdefault split splitlines startswith strip update upper values zfill bit_length"
 ).split()
 BARRED = (
     "register mro elements open input law version_info with_traceback add_note type typing enum namedtuple dataclass"

@@ -117,6 +117,97 @@ LISTED = {
         told_clause(clause)
         told(clauses)
     """,
+    "safety": """
+        needs(rule, number)
+        gives(rule, number)
+        shared(rule, number, name)
+        ready(rule, number, bound)
+        limited(rule)
+        loose(rule)
+        reckoned_twice(rule)
+        all_terms(rule)
+        too_long(term)
+        check_rule(rule)
+        is_fact(rule)
+        row_of(rule)
+        parted(rules)
+        is_name(name)
+    """,
+    "kinds": """
+        class Places(): many
+        Places.meet(name, count)
+        Places.meet_rule(rule)
+        Places.count_of(name)
+        Places.shown()
+        places_of(rules, facts)
+        kind_of(value)
+        joined(one, other)
+        both(one, other)
+        start_kinds(facts, rules)
+        name_kinds(rule, table)
+        lets_through(rule, table, found)
+        head_kinds(rule, found)
+        kinds_told(rules, facts)
+        never(rules, facts)
+    """,
+    "layers": """
+        links(rules)
+        reached(table, name)
+        rings(rules)
+        is_ring(rules, ring)
+        check_layers(rules)
+        layer_numbers(rules)
+        layers(rules)
+        way(table, start, end)
+        strict_ring(rules)
+        above(rules, names)
+        below(rules, names)
+    """,
+    "stores": """
+        class Relation(rows=()): held, tables
+        Relation.has(row)
+        Relation.size()
+        Relation.add(row)
+        Relation.drop(row)
+        Relation.look(places, values)
+        Relation.rows()
+        Relation.twin()
+        class Before(now, added, dropped): now, added, dropped
+        Before.has(row)
+        Before.size()
+        Before.look(places, values)
+        Before.rows()
+        class Store(): relations
+        Store.of(name)
+        Store.names()
+        Store.has(name, row)
+        Store.size()
+        Store.twin()
+        Store.shown()
+        class Changes(): added, dropped
+        Changes.note(name, row, came)
+        Changes.came(name)
+        Changes.went(name)
+        Changes.names()
+        Changes.is_bare()
+        Changes.turned()
+        Changes.shown()
+        picked(row, places)
+        store_of(facts)
+        apart(one, other)
+        laid_on(store, changes)
+    """,
+    "plans": """
+        class Plan(rule, order, given): rule, order, given
+        Plan.bound_at(step)
+        Plan.known_places(step)
+        Plan.shown()
+        weight(rule, number, bound, sizes)
+        plan(rule, sizes, first=None, given=())
+        binds(rule, number)
+        is_plan(rule, order, given=())
+        all_plans(rule, given=())
+    """,
 }
 
 
@@ -133,7 +224,8 @@ def samples():
     """Return what is handed in to make one of each class, to look at its fields."""
     return {
         "Sign": ("word", "a", 1, 1), "Cutter": ("a",), "Term": ("X",), "Literal": ("pos", "p", ()),
-        "Rule": ("p", (), ()), "Clause": ("ask", None, ()), "Reader": ((),),
+        "Rule": ("p", (), ()), "Clause": ("ask", None, ()), "Reader": ((),), "Places": (), "Relation": (),
+        "Before": (None, (), ()), "Store": (), "Changes": (), "Plan": (None, (), ()),
     }
 
 

@@ -45,7 +45,8 @@ class ClausesTest(unittest.TestCase):
         self.assertEqual(read(" # remark\n"), ())
 
     def test_read_rule(self):
-        self.assertEqual(read_rule("p(X) :- q(X).").shown(), ("p", (("var", "X"),), None, (("pos", "q", (("var", "X"),)),)))
+        part = ("pos", "q", (("var", "X"),))
+        self.assertEqual(read_rule("p(X) :- q(X).").shown(), ("p", (("var", "X"),), None, (part,)))
         self.assertEqual(read_rule("p(1).").shown(), ("p", (("val", 1),), None, ()))
         for text in ("", "p. q.", "?- p.", "! :- p.", "p. ?- p."):
             with self.assertRaises(BadRule, msg=text):
@@ -145,7 +146,8 @@ class PartsTest(unittest.TestCase):
     def test_wrong_parts(self):
         for part in ("", "X", "1", "'a'", "X :=", "X := Y", "X := Y <", "X := Y + ", "X < ", "< X", "X + Y", "X := + Y",
                      "not", "not X", "not 'a'", "not a < 1", "q(X) <  1", "a := 1 + 2", "q X", "not(X)",
-                     "X < Y < 1", "X = = 1", "X := 1 + 2 + 3", "'q'(X)", "Q(X)", "q()", "q(q(X))", "X ! Y", "q,",
+                     "X < Y < 1", "X = = 1", "X 1", "X a", "X := Y 1", "X := Y a", "X := 1 + 2 + 3", "'q'(X)",
+                     "Q(X)", "q()", "q(q(X))", "X ! Y", "q,",
                      ", q", "q, , r", ":- q"):
             for text in (f"p :- {part}.", f"?- {part}.", f"! :- {part}."):
                 with self.assertRaises(BadSign, msg=text):

@@ -132,8 +132,9 @@ class SummedRuleTest(unittest.TestCase):
         for place, kind in ((0, "mean"), (0, ""), (0, "+"), (2, "sum"), (-1, "sum"), (1, "sum")):
             with self.assertRaises(BadRule, msg=(place, kind)):
                 summed_rule("p", [X, val(1)], body, place, kind)
-        with self.assertRaises(BadRule):
-            summed_rule("p", [], body, 0, "sum")
+        for terms, place in (([], 0), ([X], -1), ([val(1), X], -1), ([X], 1)):
+            with self.assertRaises(BadRule):
+                summed_rule("p", terms, body, place, "sum")
 
 
 class SameTest(unittest.TestCase):
