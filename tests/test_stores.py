@@ -168,8 +168,8 @@ class BeforeTest(unittest.TestCase):
         self.assertEqual((before.rows(), before.size()), (((), (2,), (2, 3)), 3))
 
     def test_as_many_as_its_rows(self):
-        before = Before(Relation([(1,), (2,)]), [(1,), (3,)], [(2,), (1,)])
-        self.assertEqual((before.rows(), before.size()), (((1,), (2,)), 2))
+        before = Before(Relation([(1,), (2,), (5,)]), [(1,), (3,), (5,)], [(1,), (2,), (5,)])
+        self.assertEqual((before.rows(), before.size()), (((1,), (2,), (5,)), 3))
 
     def test_fields(self):
         relation = Relation([(1,)])
