@@ -11,12 +11,15 @@ class Plan:
         self.rule = rule
         self.order = tuple(order)
         self.given = tuple(given)
+        # A part that could not come by itself, but stands first, was told to come first.
+        self.told_first = not all([ready(rule, number, self.given) for number in self.order[:1]])
 
     def bound_at(self, step):
         """Return the names bound ahead of a step, in order."""
-        taken = [binds(self.rule, number) for number in self.order[:1]]
-        taken.extend([gives(self.rule, number) for number in self.order[1:]])
-        return tuple(bound_by(self.given, taken[:step]))
+        taken = [gives(self.rule, number) for number in self.order[:step]]
+        if self.told_first and taken != []:
+            taken[0] = binds(self.rule, self.order[0])
+        return tuple(bound_by(self.given, taken))
 
     def known_places(self, step):
         """Return the places of a step's part that have a value by then."""
@@ -60,7 +63,9 @@ def plan(rule, sizes, first=None, given=()):
         number = lightest(rule, order, bound_by(given, taken), sizes)
         order.append(number)
         taken.append(gives(rule, number))
-    return Plan(rule, order, given)
+    found = Plan(rule, order, given)
+    found.told_first = first is not None
+    return found
 
 
 def lightest(rule, order, bound, sizes):

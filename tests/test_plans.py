@@ -103,6 +103,44 @@ class FirstTest(unittest.TestCase):
         self.assertEqual(order_of("p :- a(X), Y < 3, Z := Y + 1.", {}, 2, ("Y",)), (2, 1, 0))
 
 
+class OpenNamesTest(unittest.TestCase):
+    """[8] and [13]: a not binds none of the names that are left open in it."""
+
+    def bound(self, found):
+        return [found.bound_at(step) for step in range(len(found.order) + 1)]
+
+    def test_a_not_taken_as_it_comes_binds_none(self):
+        found = plan(read_rule("h :- not p(Z, 2), 2 < X, q(1, X)."), {"p": 0, "q": 0})
+        self.assertEqual(self.bound(found), [(), (), ("X",), ("X",)])
+        self.assertEqual(found.shown(), ((0, 2, 1), ((1,), (0,), (0, 1))))
+        found = plan(read_rule("h :- q(X), not p(X, Z), r(X, Y), not s(W, W)."), {})
+        self.assertEqual(found.order, (3, 0, 1, 2))
+        self.assertEqual(self.bound(found), [(), (), ("X",), ("X",), ("X", "Y")])
+
+    def test_a_not_alone_binds_none(self):
+        self.assertEqual(self.bound(plan(read_rule("h :- not p(Z)."), {})), [(), ()])
+        self.assertEqual(self.bound(Plan(read_rule("h :- not p(Z), q(X)."), (0, 1), ())), [(), (), ("X",)])
+
+    def test_names_given_stay_bound(self):
+        found = plan(read_rule("h :- not p(Z, X), q(X), not r(W)."), {}, None, ("X", "W"))
+        self.assertEqual((found.order, self.bound(found)), ((0, 2, 1), [("X", "W")] * 4))
+        self.assertEqual(found.shown()[1], ((1,), (0,), (0,)))
+
+    def test_a_not_told_to_come_first_binds_all_its_names(self):
+        found = plan(read_rule("h :- not p(Z, 2), 2 < X, q(1, X)."), {}, 0)
+        self.assertEqual(self.bound(found), [(), ("Z",), ("Z", "X"), ("Z", "X")])
+        found = plan(read_rule("h(X) :- q(X, Y), not p(X, Z), not r(W)."), {}, 1)
+        self.assertEqual((found.order, self.bound(found)[:3]), ((1, 2, 0), [(), ("X", "Z"), ("X", "Z")]))
+
+    def test_each_not_of_some_rules(self):
+        for rule, _ in some_rules(300, 12):
+            for order in all_plans(rule, ("X",))[:4]:
+                names = {"X"}
+                for step, number in enumerate(order):
+                    self.assertEqual(set(Plan(rule, order, ("X",)).bound_at(step)), names)
+                    names.update(gives(rule, number))
+
+
 class NoPlanTest(unittest.TestCase):
     def test_refused(self):
         for text in ("p :- X < 1.", "p :- a(X), X < Y.", "p :- X := Y + 1, Y := X + 1.", "p :- not a(X), not b(X).",
