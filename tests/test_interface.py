@@ -208,6 +208,72 @@ LISTED = {
         is_plan(rule, order, given=())
         all_plans(rule, given=())
     """,
+    "joins": """
+        class Views(store, own=None): store, own
+        Views.of(rule, number)
+        holds_between(sign, one, other)
+        none_there(rule, number, bound, relation)
+        widened(rule, number, bound, views)
+        solutions(rule, order, views, start=None)
+        heads(rule, bounds)
+        told_names(rule)
+        as_key(rule, bound)
+    """,
+    "sums": """
+        class Group(): often, many, whole
+        Group.bring(value, way)
+        Group.told(kind)
+        class Ledger(rule): rule, groups, brought
+        Ledger.group_of(bound)
+        Ledger.bring(bound, way)
+        Ledger.row_of(group)
+        Ledger.rows()
+        ledger_of(rule, bounds)
+        summed_rows(rule, bounds)
+        summed(kind, values)
+    """,
+    "rounds": """
+        sizes_of(store, rule)
+        whole(rule, store)
+        plain_rounds(rules, ring, base, store)
+        fresh_rows(rule, ring, store, news)
+        first_rows(rules, ring, base, store)
+        quick_rounds(rules, ring, base, store)
+        model(rules, order, base)
+        plain_model(rules, order, base)
+        outside(order, base)
+    """,
+    "counts": """
+        class Count(name, rules): name, rules, ways, ledgers, heard
+        Count.note(row, way)
+        Count.ways_of(row)
+        Count.rows()
+        Count.count_all(store, base)
+        Count.keep_up(store, based, changes)
+        Count.told_by(number, rule, steps)
+        names_heard(names, rules)
+        each_once(rule, bounds)
+        changed_ways(rule, store, changes)
+        old_views(rule, store, changes)
+        touched(rule, number, store, own, rows)
+        first_bounds(rule, number, rows)
+        bound_by(rule, number, row)
+    """,
+    "redo": """
+        class Redo(ring, rules): ring, rules, plain, summed, sums, heard
+        Redo.count_all(store, base)
+        Redo.sums_now(store)
+        Redo.parted_sums(one, other)
+        Redo.first_gone(store, based, changes, lost)
+        Redo.all_gone(store, based, changes, lost)
+        Redo.still_told(name, row, store, base)
+        Redo.first_news(store, based, changes, won)
+        Redo.keep_up(store, based, changes, base)
+        Redo.put_rounds(store, told)
+        head_bound(rule, row)
+        ways_to(rule, row, store)
+        tells(rule, row, store)
+    """,
 }
 
 
@@ -225,7 +291,8 @@ def samples():
     return {
         "Sign": ("word", "a", 1, 1), "Cutter": ("a",), "Term": ("X",), "Literal": ("pos", "p", ()),
         "Rule": ("p", (), ()), "Clause": ("ask", None, ()), "Reader": ((),), "Places": (), "Relation": (),
-        "Before": (None, (), ()), "Store": (), "Changes": (), "Plan": (None, (), ()),
+        "Before": (None, (), ()), "Store": (), "Changes": (), "Plan": (None, (), ()), "Views": (None,), "Group": (),
+        "Ledger": (None,), "Count": ("p", ()), "Redo": (("p",), ()),
     }
 
 
