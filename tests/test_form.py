@@ -21,6 +21,8 @@ BARRED = (
     "register mro elements open input law version_info with_traceback add_note type typing enum namedtuple dataclass"
     " globals locals exec eval compile id dir vars getattr setattr hasattr super exit quit help os sys"
 ).split()
+# What may stand among the imports beside the package's own modules.
+LIBRARY = {"heapq": ("heappop", "heappush")}
 UNUSED = (
     ast.Lambda, ast.Global, ast.Nonlocal, ast.AsyncFunctionDef, ast.Await, ast.Yield, ast.YieldFrom, ast.GeneratorExp,
     ast.Set, ast.SetComp, ast.Div, ast.With, ast.Match, ast.NamedExpr, ast.AnnAssign,
@@ -115,8 +117,10 @@ class ImportsTest(unittest.TestCase):
                 if isinstance(node, ast.ImportFrom):
                     self.assertIn(node, tree.body)
                     self.assertEqual(node.level, 0)
-                    self.assertTrue(node.module.startswith("deducehall."), name)
-                    defined = module_names(tree_of(node.module.split(".")[1] + ".py"))
+                    defined = LIBRARY.get(node.module)
+                    if defined is None:
+                        self.assertTrue(node.module.startswith("deducehall."), name)
+                        defined = module_names(tree_of(node.module.split(".")[1] + ".py"))
                     for alias in node.names:
                         self.assertIsNone(alias.asname)
                         self.assertIn(alias.name, defined)
@@ -126,8 +130,17 @@ class ImportsTest(unittest.TestCase):
             used = [node.id for node in ast.walk(tree) if isinstance(node, ast.Name)]
             self.assertEqual([word for word in imported_names(tree) if word not in used], [], name)
 
+    def test_the_library_is_only_called(self):
+        words = [word for words in LIBRARY.values() for word in words]
+        for name, tree in trees():
+            called = [node.func for node in ast.walk(tree) if isinstance(node, ast.Call)]
+            for node in ast.walk(tree):
+                if isinstance(node, ast.Name) and node.id in words:
+                    self.assertIn(node, called, f"{name}:{node.lineno}")
+
     def test_no_two_import_each_other(self):
-        asked = {name[:-3]: [node.module.split(".")[1] for node in imports_of(tree)] for name, tree in trees()}
+        asked = {name[:-3]: [node.module.split(".")[1] for node in imports_of(tree) if node.module not in LIBRARY]
+                 for name, tree in trees()}
         done = []
         while len(done) < len(asked):
             ready = [name for name in asked if name not in done and all(other in done for other in asked[name])]

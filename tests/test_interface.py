@@ -274,6 +274,88 @@ LISTED = {
         ways_to(rule, row, store)
         tells(rule, row, store)
     """,
+    "engines": """
+        class Engine(rules=(), facts=()): rules, base, places, order, keepers, store
+        Engine.check_names(names)
+        Engine.places_for(name)
+        Engine.lay()
+        Engine.facts()
+        Engine.rows(name)
+        Engine.has(name, row)
+        Engine.checked(changes)
+        Engine.places_after(name, changes)
+        Engine.take_in(based)
+        Engine.put(name, row)
+        Engine.take(name, row)
+        Engine.shown()
+        Engine.with_rules(rules)
+        Engine.renew(rules, based)
+        check_rows(rows)
+        one_change(name, row, came)
+        many_changes(steps)
+    """,
+    "grounds": """
+        class Ground(name, row, number, bound, parts): name, row, number, bound, parts
+        Ground.size()
+        Ground.height()
+        Ground.shown()
+        ranks(engine)
+        ring_of(engine, name)
+        best_way(engine, table, name, row)
+        lower(rule, bound, ring, table, rank)
+        ground(engine, name, row, table=None)
+        check_ground(rules, facts, told, one)
+        needed(rule)
+        check_parts(rules, facts, told, one, rule)
+        model_table(engine)
+        stands(rule, row, ring, store, table, rank)
+        check_model(rules, facts, claims)
+        nearest(engine, name, row)
+    """,
+    "costs": """
+        class Prices(): of_facts, of_rules
+        Prices.price_fact(name, row, price)
+        Prices.price_rule(number, price)
+        Prices.fact(name, row)
+        Prices.rule(number)
+        all_ways(engine, name, row)
+        summed_ways(engine, name, row)
+        way_table(engine)
+        cost_of(way, prices, table)
+        costs(engine, prices)
+        cost(engine, prices, name, row)
+        cheapest(engine, prices, name, row, table=None)
+        price_of(ground, prices)
+        ranked(engine, prices, name)
+    """,
+    "queries": """
+        class Question(body): rule, told_of
+        Question.answer(engine)
+        Question.all_bounds(engine)
+        Question.holds(engine)
+        Question.first(engine)
+        Question.asks()
+        question(text)
+        bound_of(text)
+        asked(engine, text)
+        counted(engine, text)
+        grouped(engine, text, many)
+        same_answers(one, other, engine)
+        bindings(engine, text)
+    """,
+    "magics": """
+        class Magic(rules, name, known): taken, rules, made, called, left, name, spots, target
+        Magic.free(name)
+        Magic.name_for(name, known)
+        Magic.write(key)
+        Magic.write_rule(rule, own, seed, known)
+        Magic.seed()
+        can_be(rules, name)
+        magic(rules, name, known)
+        quick(rules, facts, name, terms)
+        plain(engine, name, terms)
+        without_loops(rules)
+    """,
 }
 
 
@@ -292,7 +374,8 @@ def samples():
         "Sign": ("word", "a", 1, 1), "Cutter": ("a",), "Term": ("X",), "Literal": ("pos", "p", ()),
         "Rule": ("p", (), ()), "Clause": ("ask", None, ()), "Reader": ((),), "Places": (), "Relation": (),
         "Before": (None, (), ()), "Store": (), "Changes": (), "Plan": (None, (), ()), "Views": (None,), "Group": (),
-        "Ledger": (None,), "Count": ("p", ()), "Redo": (("p",), ()),
+        "Ledger": (None,), "Count": ("p", ()), "Redo": (("p",), ()), "Engine": (), "Ground": ("p", (), None, {}, []),
+        "Prices": (), "Question": ((),), "Magic": ((), "p", ()),
     }
 
 
