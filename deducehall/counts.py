@@ -80,7 +80,8 @@ class Count:
         before = {}
         for way, bound in in_turn:
             group = ledger.group_of(bound)
-            before.setdefault(group, ledger.row_of(group))
+            if group not in before:
+                before[group] = ledger.row_of(group)
             ledger.bring(bound, way)
         after = {group: ledger.row_of(group) for group in before}
         turned = [group for group in before if before[group] != after[group]]

@@ -167,7 +167,8 @@ def grown(rules, start, chosen):
             asked[key] = () if number is None else asked_rows(rules[number], bound)
             left.extend(asked[key])
     for key in asked:
-        ways[key].parts = [ways[other] for other in asked[key]]
+        one = ways[key]
+        one.parts = [ways[other] for other in asked[key]]
     return ways[start]
 
 
@@ -194,7 +195,8 @@ def check_step(rules, told, one):
         raise BadGround(f"no rule for it: {one.name}")
     rule = rules[one.number]
     if rule.summed is not None:
-        if len(one.parts) > 0 or not sum_tells(rule, one.row, told):
+        # A summed rule's ground has the bare binding and no parts.
+        if one.bound != {} or len(one.parts) > 0 or not sum_tells(rule, one.row, told):
             raise BadGround(f"no sum: {one.name}")
         return
     if any([name not in one.bound for name in needed(rule)]):

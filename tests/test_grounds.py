@@ -251,6 +251,9 @@ class CheckGroundTest(unittest.TestCase):
         one.row = (2, 2)
         self.refused(one)
         one = self.one("far", (2, 3))
+        one.bound["X"] = 2
+        self.refused(one)
+        one = self.one("far", (2, 3))
         one.parts.append(Ground("edge", (1, 2), None, {}, []))
         self.refused(one)
         one = self.one("dist", (2, 30))

@@ -120,6 +120,7 @@ class OpenNamesTest(unittest.TestCase):
     def test_a_not_alone_binds_none(self):
         self.assertEqual(self.bound(plan(read_rule("h :- not p(Z)."), {})), [(), ()])
         self.assertEqual(self.bound(Plan(read_rule("h :- not p(Z), q(X)."), (0, 1), ())), [(), (), ("X",)])
+        self.assertEqual(self.bound(Plan(read_rule("h :- not p(Z), q(X), X < 3."), (0, 2), ())), [(), (), ()])
 
     def test_names_given_stay_bound(self):
         found = plan(read_rule("h :- not p(Z, X), q(X), not r(W)."), {}, None, ("X", "W"))
