@@ -60,6 +60,12 @@ def body_of(text, kind):
     return clauses[0].body
 
 
+def asks_changed(one, changes):
+    """Tell whether a question asks for or against a name with changes."""
+    names = changes.names()
+    return any([name in names for name in one.asks()])
+
+
 def question(text):
     """Return the one question of a text; BadRule for another clause or several."""
     return Question(body_of(text, "ask"))
