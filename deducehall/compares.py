@@ -1,6 +1,7 @@
 """Compares: which positive rule's answers lie within another's, and rules without what they needn't ask."""
 
 from deducehall.errors import BadKind, BadRule
+from deducehall.kinds import places_of
 from deducehall.redo import tells
 from deducehall.rounds import whole
 from deducehall.rules import Literal, Rule
@@ -41,6 +42,8 @@ def must_be_simple(rules):
 def within(one, other):
     """Tell whether whatever one rule tells over any facts the other tells, too; BadKind for unlike places, BadRule."""
     must_be_simple([one, other])
+    # A name has one count of places in both rules; heads of unlike names are held against each other, too.
+    places_of([one, other], ())
     if len(one.terms) != len(other.terms):
         raise BadKind(f"unlike places: {one.name} and {other.name}")
     facts, row = frozen(one, own_mark([one, other]))

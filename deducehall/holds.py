@@ -94,6 +94,7 @@ class Hold:
         based = many_changes(self.steps[many:]).turned()
         changes = self.engine.take_in(based) if rules == self.engine.rules else self.engine.renew(rules, based)
         self.steps = self.steps[:many]
+        self.marks = {word: self.marks[word] for word in self.marks if self.marks[word][0] <= many}
         return self.noted(changes)
 
     def throw_away(self):

@@ -24,7 +24,7 @@ class Block:
     def __init__(self, number, rules, steps):
         self.number = number
         self.rules = None if rules is None else tuple(rules)
-        self.steps = tuple(steps)
+        self.steps = tuple([tuple(step) for step in steps])
 
     def written(self):
         """Return it as it is written, the figure behind it."""

@@ -21,6 +21,7 @@ CHANGES = ("+", "-", "rule", "unrule")
 DEEDS = ("begin", "keep", "throw")
 MARKS = ("mark", "back")
 SETTING = ("!", "watch")
+WHITE = " \t\n"
 
 
 class Session:
@@ -196,10 +197,11 @@ def question_text(rest):
 
 def first_word(line):
     """Return (first word, what is behind it), blanks at both ends gone."""
-    words = line.split(None, 1)
-    if words == []:
-        return "", ""
-    return words[0], "".join(words[1:]).strip()
+    said = line.strip(WHITE)
+    end = 0
+    while end < len(said) and said[end] not in WHITE:
+        end += 1
+    return said[:end], said[end:].strip(WHITE)
 
 
 def one_word(rest):
