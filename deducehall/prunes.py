@@ -127,13 +127,24 @@ def pruned(rules, based, names):
 
 def pruned_once(rules, based, names):
     """Return rules once tidied, put in place name by name, shortened and needed: some may then be pruned again."""
-    left = wanted(tidied(rules), names)
+    left = tidy_and_wanted(rules, names)
     name = first_to_unfold(left, based, names)
     while name is not None:
-        left = wanted(tidied(put_in_place(left, name)), names)
+        left = tidy_and_wanted(put_in_place(left, name), names)
         name = first_to_unfold(left, based, names)
     short = [shortest(rule) if is_simple(rule) else rule for rule in left]
-    return wanted(tidied(needed_rules(short)), names)
+    return tidy_and_wanted(needed_rules(short), names)
+
+
+def tidy_and_wanted(rules, names):
+    """Return rules tidied, those that some names don't ask left out; one of held tests alone keeps the first."""
+    found = []
+    for rule in rules:
+        for other in tidied([rule]):
+            # Without a body it would be a fact, which no engine takes among its rules.
+            is_bare = other.body == () and rule.body != ()
+            found.append(Rule(rule.name, rule.terms, rule.body[:1]) if is_bare else other)
+    return wanted(found, names)
 
 
 def first_to_unfold(rules, based, names):
