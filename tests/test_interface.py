@@ -1,8 +1,10 @@
-"""The interface of the modules that have landed, as the document lists it, [1] and [34]."""
+"""The interface of all modules, as the document lists it, [1] and [34]."""
 
 import importlib
 import inspect
 import unittest
+
+from deducehall.engines import Engine
 
 # "class NAME(arguments): fields", "NAME.method(arguments)", "function(arguments)", as in the document.
 LISTED = {
@@ -356,6 +358,164 @@ LISTED = {
         plain(engine, name, terms)
         without_loops(rules)
     """,
+    "bounds": """
+        class Bounds(): held
+        Bounds.set_bound(body, engine)
+        Bounds.lift(number)
+        Bounds.broken(engine)
+        Bounds.check(engine)
+        Bounds.touched(changes)
+        Bounds.broken_by(engine, changes)
+        Bounds.shown()
+        only_one(name, places, count)
+        stands_in(name, place, count, other, there, many)
+    """,
+    "watches": """
+        class Watch(text, engine): question, last
+        Watch.news(engine)
+        Watch.rows()
+        class Watches(): held
+        Watches.set_watch(word, text, engine)
+        Watches.lift(word)
+        Watches.tell(engine, changes)
+        Watches.tell_all(engine)
+        gathered(rows, tellings)
+    """,
+    "holds": """
+        class Hold(engine, bounds, watches): engine, bounds, watches, steps, marks, rules, before, kept
+        Hold.is_open()
+        Hold.begin()
+        Hold.must_be_open()
+        Hold.put(name, row)
+        Hold.take(name, row)
+        Hold.with_rules(rules)
+        Hold.mark(word)
+        Hold.go_back(word)
+        Hold.undo(many, rules)
+        Hold.throw_away()
+        Hold.keep()
+        Hold.based()
+        at_once(hold, steps)
+        done(hold, name, row, came)
+    """,
+    "logs": """
+        figure_of(text)
+        fact_text(name, row)
+        class Block(number, rules, steps): number, rules, steps
+        Block.written()
+        Block.shown()
+        class Log(): text, many
+        Log.write(rules, changes)
+        read_fact(text)
+        read_rules(lines)
+        whole_lines(text)
+        read_block(lines)
+        is_count(line, word)
+        blocks_of(text)
+        replayed(text)
+    """,
+    "saves": """
+        saved(engine)
+        body_of(text)
+        restored(text)
+        same(one, other)
+        as_block(engine)
+        shortened(text, many)
+        stages(text)
+    """,
+    "forks": """
+        class Version(number, parents, facts): number, parents, kept
+        class Forks(rules=()): rules, versions
+        Forks.version(number)
+        Forks.grow(number, changes)
+        Forks.add(parents, base)
+        Forks.ancestry(number)
+        Forks.meeting(one, other)
+        Forks.between(one, other)
+        Forks.join(one, other)
+        Forks.engine_of(number)
+        Forks.told_between(one, other)
+        Forks.way(number)
+        together(start, one, other)
+        clash(start, one, other, name, places)
+        fresh(start, store, name)
+    """,
+    "compares": """
+        is_simple(rule)
+        own_mark(rules)
+        frozen(rule, mark='?')
+        must_be_simple(rules)
+        within(one, other)
+        answers(rule, facts)
+        alike(one, other)
+        shortest(rule)
+        covers(rule)
+        needed_rules(rules)
+        witness(one, other)
+        like_terms(one, other)
+        at_value(rule, name, value)
+    """,
+    "prunes": """
+        wanted(rules, names)
+        tidy(rule)
+        tidied(rules)
+        asks_itself(rule)
+        apart_from(rule, other, mark)
+        unfolded(rule, number, inner)
+        can_unfold(rules, name, based, names)
+        put_in_place(rules, name)
+        pruned(rules, based, names)
+        saving(rules, based, names)
+        plain_names(rules)
+    """,
+    "shards": """
+        class Shard(rules): rules, store, fresh
+        Shard.meet(name, row)
+        Shard.think()
+        Shard.think_through()
+        class Net(rules, many): shards, ways
+        Net.put(name, row)
+        Net.send_on(number, pairs)
+        Net.think(number)
+        Net.bring(place)
+        Net.double(place)
+        Net.drop(place)
+        Net.even_out(one, other)
+        Net.settle()
+        Net.shown()
+        home(row, many)
+    """,
+    "wells": """
+        must_be_plain(rules)
+        least_with(rules, base, nots)
+        grown(rules, base)
+        well(rules, base)
+        lacking(one, other)
+        is_settled(rules, base)
+        is_stable(rules, base, store)
+        stable(rules, base, most=6)
+        choices(many)
+        turns(rules, base)
+    """,
+    "sessions": """
+        class Session(engine=None): engine, bounds, watches, hold, log
+        Session.say(line)
+        Session.do(word, rest)
+        Session.change(word, rest)
+        Session.one_change(word, rule)
+        Session.hold_deed(word, rest)
+        Session.keep()
+        Session.answer(rest)
+        Session.why(rest)
+        Session.save()
+        why_lines(one, blanks)
+        first_word(line)
+        told_row(row)
+        told_rows(rows)
+        from_log(text)
+        from_save(text)
+        rules_told(session)
+    """,
 }
 
 
@@ -375,7 +535,9 @@ def samples():
         "Rule": ("p", (), ()), "Clause": ("ask", None, ()), "Reader": ((),), "Places": (), "Relation": (),
         "Before": (None, (), ()), "Store": (), "Changes": (), "Plan": (None, (), ()), "Views": (None,), "Group": (),
         "Ledger": (None,), "Count": ("p", ()), "Redo": (("p",), ()), "Engine": (), "Ground": ("p", (), None, {}, []),
-        "Prices": (), "Question": ((),), "Magic": ((), "p", ()),
+        "Prices": (), "Question": ((),), "Magic": ((), "p", ()), "Bounds": (), "Watch": ("?- p(X).", Engine()),
+        "Watches": (), "Hold": (None, None, None), "Block": (0, None, ()), "Log": (), "Version": (0, (), ()),
+        "Forks": (), "Shard": ((),), "Net": ((), 1), "Session": (),
     }
 
 
