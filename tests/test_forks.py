@@ -78,6 +78,13 @@ class GrowTest(ForksCase):
             self.refused(NoSuch, forks, forks.grow, 1, changes_of(came, went))
         self.assertEqual(forks.grow(1, changes_of("p(2).")), 2)
 
+    def test_a_second_beginning_meets_the_first_nowhere(self):
+        forks = Forks()
+        self.assertEqual(forks.add((), store_of([("p", (1,))])), 1)
+        self.assertEqual((forks.way(1), forks.ancestry(1)), ((1,), (1,)))
+        self.refused(NoSuch, forks, forks.meeting, 0, 1)
+        self.refused(NoSuch, forks, forks.join, 1, 0)
+
     def test_add_a_store(self):
         forks = Forks()
         forks.grow(0, changes_of("p(1)."))
@@ -204,6 +211,10 @@ class ClashTest(unittest.TestCase):
         other = store_of(oracle.facts_of("p(1, 2, 4). p(2, 1, 5)."))
         self.assertEqual(clash(bare, one, other, "p", (1, 0)), ((1, 2), (2, 1)))
         self.assertEqual(clash(bare, one, other, "p", (2,)), ())
+
+    def test_rows_with_fewer_places_clash_nowhere(self):
+        bare = store_of([])
+        self.assertEqual(clash(bare, store_of([("p", (1,)), ("p", ())]), store_of([("p", (2,)), ("p", (3, 4))]), "p", (1,)), ())
 
     def test_the_others_row_that_the_one_has_does_not_clash(self):
         bare = store_of([])

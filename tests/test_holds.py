@@ -73,7 +73,7 @@ class BegunTest(HoldCase):
         for round_of in range(3):
             for deed, arguments in ((hold.put, ("edge", (3, 4))), (hold.take, ("edge", (1, 2))),
                                     (hold.with_rules, ((),)), (hold.mark, ("here",)), (hold.go_back, ("here",)),
-                                    (hold.throw_away, ()), (hold.keep, ()), (hold.based, ()),
+                                    (hold.throw_away, ()), (hold.keep, ()), (hold.based, ()), (hold.undo, (0, ())),
                                     (hold.must_be_open, ()), (hold.put, ("edge", (1, 2))), (hold.take, ("x", ())),
                                     (hold.put, ("not", (10 ** 18,)))):
                 self.refused(BadDeed, hold, deed, *arguments)

@@ -128,7 +128,7 @@ class BlockTest(LogCase):
         self.assertEqual((block.number, block.rules, block.steps), (1, None, (("a", (1,), True),)))
 
     def test_read_back(self):
-        for block in (Block(0, None, ()), Block(4, oracle.rules_of(RULES), [("p", (value,), True) for value in HARD]),
+        for block in (Block(0, None, ()), Block(3, oracle.rules_of(RULES), ()), Block(4, oracle.rules_of(RULES), [("p", (value,), True) for value in HARD]),
                       Block(10 ** 12 - 1, (), [("z", (), False), ("a", (1, 2), True)])):
             self.assertEqual(read_block(whole_lines(block.written())[:-1]).shown(), block.shown())
 

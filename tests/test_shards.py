@@ -182,6 +182,9 @@ class SettledTest(NetCase):
         net = Net(rules(), 3)
         net.put("edge", (1, 2))
         self.assertGreater(net.settle(), 0)
+        net = Net((), 3)
+        net.put("edge", (1, 2))
+        self.assertEqual(net.settle(), 1)
 
     def test_all_that_is_on_its_way_dropped(self):
         net = Net(rules(), 3)

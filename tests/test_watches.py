@@ -144,6 +144,7 @@ class GatheredTest(unittest.TestCase):
         self.assertEqual(rows, [(2,), ("w",)])
         self.assertEqual(gathered((("w",), (2,), (-1,)), ()), ((-1,), (2,), ("w",)))
         self.assertEqual(gathered((), [(((),), ())]), ((),))
+        self.assertEqual(gathered(rows, [("word", ((1,),), ((2,),))]), ((1,), ("w",)))
 
     def test_what_does_not_fit(self):
         for rows, tellings in (([(1,)], [((), ((2,),))]), ([(1,)], [(((1,),), ())]),
